@@ -1,6 +1,6 @@
-"""The calls on a plan: each answers a list, a refusal's number alone or what's wanted."""
+"""The calls on a plan: each answers a list, a refusal's number alone or what's told."""
 
-from readtimes.groups import Group
+from readtimes.groups import Group, next_reading
 from readtimes.limits import are_settings, is_channel, is_group, is_time
 
 NOT_REFUSED = 0
@@ -83,3 +83,55 @@ def switch_on(plan, number, now):
     group = plan.groups[number]
     group.turn_on(now)
     return told
+
+
+def switch_off(plan, number, now):
+    refusal = refuse_group(plan, number, now)
+    if refusal != NOT_REFUSED:
+        return [refusal]
+    told = plan.go_on(now)
+    group = plan.groups[number]
+    group.turn_off()
+    return told
+
+
+def make_quick(plan, number, now, till):
+    if not is_time(till) or till <= now:
+        return [NOT_IN_RANGE]
+    refusal = refuse_group(plan, number, now)
+    if refusal != NOT_REFUSED:
+        return [refusal]
+    told = plan.go_on(now)
+    group = plan.groups[number]
+    group.till = till
+    return told
+
+
+def pass_time(plan, now):
+    refusal = refuse_time(plan, now)
+    if refusal != NOT_REFUSED:
+        return [refusal]
+    return plan.go_on(now)
+
+
+def tell_next(plan):
+    times = [next_reading(group) for group in plan.groups_on()]
+    if len(times) == 0:
+        return [NO_SUCH_GROUP]
+    return [0, min(times)]
+
+
+def look_at(plan, number):
+    # No range is asked: a group above the last is one that isn't there.
+    if number not in plan.groups:
+        return [NO_SUCH_GROUP]
+    group = plan.groups[number]
+    active = 1 if group.active else 0
+    return [0, active, group.since, group.till, group.wanted_in_all, group.missed_in_all]
+
+
+def tell_channels(plan, number):
+    if number not in plan.groups:
+        return [NO_SUCH_GROUP]
+    channels = plan.channels_of(number)
+    return [len(channels)] + channels

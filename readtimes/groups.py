@@ -26,6 +26,10 @@ class Group:
             self.active = True
             self.start_behind(now)
 
+    def turn_off(self):
+        # The times stay: they're told as they were till it's on again.
+        self.active = False
+
     def take_missed(self, now):
         """How many of the readings that count came too late for now."""
         missed = count_readings(self, self.since, now - self.slack - 1)
@@ -72,14 +76,31 @@ def reading_times(group, first, last):
 def times_with_period(group, period, first, last):
     times = []
     for place in range(group.burst):
-        start = burst_place(group, place)
-        # Rounded up: the first of these readings that isn't before first.
-        steps = max(0, (first - start + period - 1) // period)
-        at = start + steps * period
+        at = first_of_place(group, period, place, first)
         while at <= last:
             times.append(at)
             at += period
     return times
+
+
+def next_reading(group):
+    """The time of the first of the group's readings that count."""
+    quick = first_with_period(group, group.quick, group.since)
+    if quick < group.till:
+        return quick
+    return first_with_period(group, group.period, max(group.since, group.till))
+
+
+def first_with_period(group, period, first):
+    return min([first_of_place(group, period, place, first) for place in range(group.burst)])
+
+
+def first_of_place(group, period, place, first):
+    """The first reading with that place in its burst that isn't before first."""
+    start = burst_place(group, place)
+    # Rounded up, so that none before first is taken.
+    steps = max(0, (first - start + period - 1) // period)
+    return start + steps * period
 
 
 def burst_place(group, place):

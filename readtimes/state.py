@@ -20,6 +20,9 @@ class Plan:
         if channel in self.owners:
             self.owners.pop(channel)
 
+    def groups_on(self):
+        return [self.groups[number] for number in sorted(self.groups) if self.groups[number].active]
+
     def go_on(self, now):
         """Time goes on to now: how many things are wanted, then these."""
         late = []

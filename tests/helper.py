@@ -31,9 +31,29 @@ def on(number, now):
     return [6, number, now]
 
 
-def tick(now):
-    """Time goes on and nothing else: no test here has anything of channel 63 unless it says so."""
-    return alone(63, now)
+def off(number, now):
+    return [7, number, now]
+
+
+def quick(number, now, till):
+    return [8, number, now, till]
+
+
+def time(now):
+    return [9, now]
+
+
+def upcoming():
+    """The call next."""
+    return [10]
+
+
+def look(number):
+    return [11, number]
+
+
+def of(number):
+    return [12, number]
 
 
 def split(told):
@@ -60,8 +80,37 @@ def last(*calls):
     return ask(*calls)[-1]
 
 
+class SlowGroup:
+    def __init__(self, settings, now):
+        self.period, self.quick, self.phase, self.burst, self.gap, self.slack = settings
+        self.on = False
+        self.since = self.till = now + 1
+        self.wanted = self.missed = 0
+
+    def readings(self, end):
+        """Each reading up to end, rising, walked from the phase on."""
+        times = []
+        for period, is_quick in ((self.quick, True), (self.period, False)):
+            start = self.phase
+            while start <= end:
+                for at in [start + place * self.gap for place in range(self.burst)]:
+                    if at <= end and (at < self.till) == is_quick:
+                        times.append(at)
+                start += period
+        return sorted(times)
+
+    def counting(self, end):
+        return [at for at in self.readings(end) if at >= self.since]
+
+    def upcoming(self):
+        end = self.since
+        while not self.counting(end):
+            end += 700
+        return self.counting(end)[0]
+
+
 class SlowPlan:
-    """Walks reading after reading, microsecond-exact; only for times that are small."""
+    """Walks reading after reading; only for times that are small."""
 
     def __init__(self):
         self.begin()
@@ -76,35 +125,39 @@ class SlowPlan:
         if kind == 1:
             self.begin()
             return [0]
-        refusal = self.refusal(kind, numbers)
+        if kind >= 10:
+            return self.tell(kind, numbers)
+        now = numbers[1] if kind == 8 else numbers[-1]
+        refusal = self.refusal(kind, numbers, now)
         if refusal:
             return [refusal]
-        told = self.go_on(numbers[-1])
-        self.change(kind, numbers)
+        told = self.go_on(now)
+        self.change(kind, numbers, now)
         return told
 
-    def refusal(self, kind, numbers):
-        now = numbers[-1]
+    def refusal(self, kind, numbers, now):
         ranges = [now <= LAST_TIME]
-        if kind in (2, 3, 6):
+        if kind in (2, 3, 6, 7, 8):
             ranges.append(numbers[0] < 16)
         if kind in (4, 5):
             ranges.append(numbers[0] < 64)
         if kind == 4:
             ranges.append(numbers[1] < 16)
+        if kind == 8:
+            ranges.append(now < numbers[2] <= LAST_TIME)
         if kind == 2:
-            period, quick, phase, burst, gap, slack = numbers[1:7]
-            ranges += [1000 <= period <= DAY, 1000 <= quick <= period, phase < DAY, 1 <= burst <= 16]
-            ranges += [gap >= 1, sum([gap] * (min(burst, 17) - 1)) < quick, slack < quick]
+            period, fast, phase, burst, gap, slack = numbers[1:7]
+            ranges += [1000 <= period <= DAY, 1000 <= fast <= period, phase < DAY, 1 <= burst <= 16]
+            ranges += [gap >= 1, sum([gap] * (min(burst, 17) - 1)) < fast, slack < fast]
         if not all(ranges):
             return -1
-        if kind in (3, 4, 6) and numbers[1 if kind == 4 else 0] not in self.groups:
+        if kind in (3, 4, 6, 7, 8) and numbers[1 if kind == 4 else 0] not in self.groups:
             return -2
         return -4 if now < self.now else 0
 
-    def change(self, kind, numbers):
+    def change(self, kind, numbers, now):
         if kind == 2:
-            self.groups[numbers[0]] = {"set": numbers[1:7], "on": False, "from": None}
+            self.groups[numbers[0]] = SlowGroup(numbers[1:7], now)
         if kind == 3:
             del self.groups[numbers[0]]
             self.owner = {c: g for c, g in self.owner.items() if g != numbers[0]}
@@ -112,29 +165,46 @@ class SlowPlan:
             self.owner[numbers[0]] = numbers[1]
         if kind == 5:
             self.owner.pop(numbers[0], None)
-        if kind == 6 and not self.groups[numbers[0]]["on"]:
-            self.groups[numbers[0]].update({"on": True, "from": numbers[1]})
+        if kind == 6 and not self.groups[numbers[0]].on:
+            self.groups[numbers[0]].on = True
+            self.groups[numbers[0]].since = self.groups[numbers[0]].till = now + 1
+        if kind == 7:
+            self.groups[numbers[0]].on = False
+        if kind == 8:
+            self.groups[numbers[0]].till = numbers[2]
+
+    def tell(self, kind, numbers):
+        if kind == 10:
+            times = [held.upcoming() for held in self.groups.values() if held.on]
+            return [0, min(times)] if times else [-2]
+        if numbers[0] not in self.groups:
+            return [-2]
+        held = self.groups[numbers[0]]
+        if kind == 11:
+            return [0, int(held.on), held.since, held.till, held.wanted, held.missed]
+        channels = self.channels(numbers[0])
+        return [len(channels)] + channels
+
+    def channels(self, number):
+        return sorted(c for c, g in self.owner.items() if g == number)
 
     def go_on(self, now):
         missed, wanted = {}, []
         for number, held in self.groups.items():
-            if not held["on"]:
+            if not held.on:
                 continue
-            period, quick, phase, burst, gap, slack = held["set"]
-            start = phase
-            while start <= now:
-                for at in [start + place * gap for place in range(burst)]:
-                    if held["from"] < at <= now and now - at > slack:
-                        missed[number] = missed.get(number, 0) + 1
-                    elif held["from"] < at <= now:
-                        wanted.append((at, number))
-                start += period
-            held["from"] = now
+            for at in held.counting(now):
+                if now - at > held.slack:
+                    missed[number] = missed.get(number, 0) + 1
+                    held.missed += 1
+                else:
+                    wanted.append((at, number))
+                    held.wanted += 1
+            held.since = now + 1
         self.now = now
         told = [len(missed) + len(wanted)]
         for number in sorted(missed):
             told += [1, number, missed[number]]
         for at, number in sorted(wanted):
-            channels = sorted(c for c, g in self.owner.items() if g == number)
-            told += [2, number, at, len(channels)] + channels
+            told += [2, number, at, len(self.channels(number))] + self.channels(number)
         return told

@@ -2,7 +2,7 @@
 
 import unittest
 
-from helper import alone, away, begin, group, member, on, tick
+from helper import alone, away, begin, group, look, member, of, off, on, quick, time, upcoming
 from readtimes.plan import answers
 
 
@@ -17,12 +17,16 @@ class Fixed(list):
 
 
 CALLS = sum((
-    group(1, 0, burst=2, gap=5, slack=100), member(3, 1, 0), member(2, 1, 0), on(1, 0), tick(1003),
-    on(2, 1003), alone(99, 1003), away(1, 3000), on(1, 3000), tick(2999), begin(), tick(0),
+    group(1, 0, burst=2, gap=5, slack=100), member(3, 1, 0), member(2, 1, 0), on(1, 0), time(1003),
+    on(2, 1003), alone(99, 1003), away(1, 3000), on(1, 3000), time(2999), begin(), time(0),
+    group(4, 0, period=5000), on(4, 0), quick(4, 0, 1500), upcoming(), time(1000), member(8, 4, 1000), look(4), of(4),
+    off(4, 5000), upcoming(), look(16), of(5), look(4),
 ), [])
 TOLD = [
     1, 0, 1, 0, 1, 0, 1, 0, 10, 2, 1, 1, 1, 2, 1, 1000, 2, 2, 3,
     1, -2, 1, -1, 10, 2, 1, 1, 3, 2, 1, 3000, 2, 2, 3, 1, -2, 1, -4, 1, 0, 1, 0,
+    1, 0, 1, 0, 1, 0, 2, 0, 1000, 5, 1, 2, 4, 1000, 0, 1, 0, 6, 0, 1, 1001, 1500, 1, 0, 2, 1, 8,
+    6, 1, 2, 4, 5000, 1, 8, 1, -2, 1, -2, 1, -2, 6, 0, 0, 5001, 1500, 2, 0,
 ]
 
 
@@ -36,8 +40,17 @@ class Interface(unittest.TestCase):
             [1, 0, 1, 0, 1, 0, 1, 0, 6, 1, 2, 4, 500, 1, 9, 4, 1, 1, 4, 1],
         )
 
+    def test_later_calls_as_they_are_written(self):
+        self.assertEqual(
+            answers([
+                2, 4, 2000, 1000, 500, 1, 1, 0, 0, 6, 4, 0, 8, 4, 500, 2000, 10, 9, 1500, 7, 4, 1600, 11, 4, 12, 4,
+            ]),
+            [1, 0, 1, 0, 5, 1, 2, 4, 500, 0, 2, 0, 1500, 5, 1, 2, 4, 1500, 0, 1, 0, 6, 0, 0, 1601, 2000, 2, 0, 1, 0],
+        )
+
     def test_one_call(self):
-        self.assertEqual(answers([1]), [1, 0])
+        told = [answers(call) for call in ([1], [7, 0, 0], [8, 0, 0, 1], [9, 0], [10], [11, 0], [12, 0])]
+        self.assertEqual(told, [[1, 0], [1, -2], [1, -2], [1, 0], [1, -2], [1, -2], [1, -2]])
 
     def test_kinds(self):
         told = answers(list(CALLS))
@@ -58,12 +71,12 @@ class Interface(unittest.TestCase):
         self.assertEqual([answers(CALLS) for _ in range(3)], [TOLD] * 3)
         self.assertEqual(answers(group(1, 0) + member(0, 1, 0) + on(1, 900)), [1, 0] * 3)
         self.assertEqual(answers(on(1, 0)), [1, -2])
-        self.assertEqual(answers(tick(0)), [1, 0])
+        self.assertEqual(answers(time(0)), [1, 0])
 
     def test_three_hundred_calls(self):
         calls = group(1, 0) + on(1, 0)
         for step in range(1, 299):
-            calls += tick(step * 1000)
+            calls += time(step * 1000)
         told = [1, 0, 1, 0]
         for step in range(1, 299):
             told += [5, 1, 2, 1, step * 1000, 0]

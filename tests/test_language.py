@@ -56,6 +56,7 @@ class Language(unittest.TestCase):
             if isinstance(node, ast.FunctionDef):
                 self.assertLessEqual(node.end_lineno - node.lineno + 1, 40, (name, node.name))
                 self.assertEqual(node.decorator_list, [], (name, node.name))
+                self.assertTrue(node.name == "__init__" or not hasattr(builtins, node.name), (name, node.name))
                 self.assertIsNone(node.args.vararg or node.args.kwarg, (name, node.name))
 
     def test_statements_and_expressions(self):
